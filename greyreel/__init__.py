@@ -1,0 +1,1 @@
+"""Moving pictures told in few bits."""
