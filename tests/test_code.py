@@ -179,6 +179,13 @@ class Steps(unittest.TestCase):
                     calls += [code(1 if k == 0 else key, points), picture(wide * high)]
                 self.assertEqual([part[1:] for part in ask(*calls)[2::2]], pictures)
 
+    def test_a_step_of_1_loses_not_even_what_is_dear_to_tell(self):
+        before = [128] * 512
+        after = list(before)
+        after[300] = 129
+        parts = ask(begin(32, 16, 1), code(1, before), code(0, after), picture(512))
+        self.assertEqual(parts[3], [0] + after)
+
     def test_with_other_steps_it_is_near(self):
         points = draw(48, 48, hills)
         worst = 0

@@ -164,6 +164,10 @@ class Search(unittest.TestCase):
         points = draw(48, 48, lambda x, y: 255 * ((x + y) % 2))
         self.assertEqual(asked(48, 48, points, search(1, 1, 0, 0, [128] * 256)), [[4, 0, -1]])
 
+    def test_the_first_of_several_halves_within_a_row(self):
+        points = draw(48, 48, lambda x, y: 255 * (x % 2))
+        self.assertEqual(asked(48, 48, points, search(1, 1, 0, 0, [128] * 256)), [[4, -1, 0]])
+
     def test_the_whole_place_stays_where_a_half_costs_the_same(self):
         # Half a point up, one point is 2 away and two bits are saved.
         points = [100] * (48 * 48)
