@@ -5,18 +5,11 @@ from greyreel.expected import Sheet
 from greyreel.grid import SIDE
 from greyreel.motion import FARTHEST, find_vector, moved_square
 from greyreel.reading import read_picture
+from greyreel.sizes import are_sizes_and_step
 from greyreel.smoothing import smoothed
 from greyreel.telling import tell
 
 MOST_BYTES = 1048576
-
-
-def is_size(number):
-    return 16 <= number <= 256 and number % 16 == 0
-
-
-def is_step(number):
-    return 1 <= number <= 64
 
 
 # Each call gives back the list of the numbers that it answers.
@@ -29,7 +22,7 @@ class Codec:
         self.before = None
 
     def begin(self, wide, high, step):
-        if not (is_size(wide) and is_size(high) and is_step(step)):
+        if not are_sizes_and_step(wide, high, step):
             return [-1]
         self.wide = wide
         self.high = high
@@ -76,6 +69,9 @@ class Codec:
         if not self.can_move(i, j, x, y):
             return [-1]
         return [0] + moved_square(self.before, i, j, x, y)
+
+    def about(self):
+        return [0, self.wide, self.high, self.step, 0 if self.before is None else 1]
 
     def can_move(self, i, j, x, y):
         if self.before is None or abs(x) > FARTHEST or abs(y) > FARTHEST:

@@ -34,9 +34,35 @@ def moved(i, j, x, y):
     return [6, i, j, x, y]
 
 
+def about():
+    return [7]
+
+
+def forward(block):
+    return [8, len(block)] + list(block)
+
+
+def backward(block):
+    return [9, len(block)] + list(block)
+
+
+def levels(q, block):
+    return [10, q, len(block)] + list(block)
+
+
+def values(q, told):
+    return [11, q, len(told)] + list(told)
+
+
+def smooth(wide, high, q, points):
+    return [12, wide, high, q, len(points)] + list(points)
+
+
 def ask(*calls):
     """The answers to the calls, each a list of its own, as many as there are calls."""
-    told = answers([number for call in calls for number in call])
+    row = [number for call in calls for number in call]
+    assert len(calls) <= 300 and len(row) <= 45000
+    told = answers(row)
     parts = []
     while told:
         count = told[0]
@@ -118,6 +144,13 @@ def noise(count, seed=1):
         state = (state * 1103515245 + 12345) % 2147483648
         points.append(state // 65536 % 256)
     return points
+
+
+def wild(seed):
+    """64 numbers of sixteen bits, many of them at the ends."""
+    high, low = noise(64, seed), noise(64, seed + 1)
+    numbers = [(256 * a + b) - 32768 for a, b in zip(high, low)]
+    return [(-32768, 32767, 0)[k % 3] if high[k] % 4 == 0 else numbers[k] for k in range(64)]
 
 
 def draw(wide, high, point):

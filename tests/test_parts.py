@@ -7,15 +7,8 @@ from greyreel.grid import Picture, turned
 from greyreel.levels import ORDER, level_of, levels_of, values_of
 from greyreel.smoothing import smoothed
 from greyreel.transform import backward, forward
-from tests.helper import noise, num, pack, signed
+from tests.helper import noise, num, pack, signed, wild
 from tests.test_by_the_words import Words, diagonals, transform, transform_back
-
-
-def wild(seed):
-    """64 numbers of sixteen bits, many of them at the ends."""
-    high, low = noise(64, seed), noise(64, seed + 1)
-    numbers = [(256 * a + b) - 32768 for a, b in zip(high, low)]
-    return [(-32768, 32767, 0)[k % 3] if high[k] % 4 == 0 else numbers[k] for k in range(64)]
 
 
 def rows(block):

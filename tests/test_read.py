@@ -3,7 +3,9 @@
 import unittest
 
 from greyreel.bits import BitReader, Refused
-from tests.helper import FLAT, REFUSED, ask, begin, block, code, draw, hills, noise, num, pack, picture, read, signed
+from tests.helper import (
+    FLAT, REFUSED, about, ask, backward, begin, block, code, draw, hills, noise, num, pack, picture, read, signed,
+    smooth, take_apart, values)
 
 AS_BEFORE = num(0)
 DOWN = num(3) + "0000"
@@ -140,17 +142,17 @@ class Strict(unittest.TestCase):
         """Refused both as bits written here and with nothing changed."""
         row = pack(text) if isinstance(text, str) else text
         points = noise(wide * high)
+        count = wide * high
         if before:
-            parts = ask(begin(wide, high, q), code(1, points), picture(wide * high), read(row), picture(wide * high))
-            self.assertEqual(parts[3], REFUSED)
-            self.assertEqual(parts[4], parts[2])
+            parts = ask(begin(wide, high, q), code(1, points), picture(count), read(row), about(), picture(count))
+            self.assertEqual(parts[3:], [REFUSED, [0, wide, high, q, 1], parts[2]])
         else:
-            parts = ask(begin(wide, high, q), read(row), picture(wide * high))
-            self.assertEqual(parts[1:], [REFUSED, REFUSED])
+            parts = ask(begin(wide, high, q), read(row), about(), picture(count))
+            self.assertEqual(parts[1:], [REFUSED, [0, wide, high, q, 0], REFUSED])
 
     def taken(self, wide, high, q, text):
-        parts = ask(begin(wide, high, q), code(1, noise(wide * high)), read(pack(text)))
-        self.assertEqual(parts[2], [0])
+        parts = ask(begin(wide, high, q), code(1, noise(wide * high)), read(pack(text)), about())
+        self.assertEqual(parts[2:], [[0], [0, wide, high, q, 1]])
 
     def test_no_bytes(self):
         self.refused(16, 16, 8, [])
@@ -243,6 +245,47 @@ class Strict(unittest.TestCase):
     def test_behind_a_refusal_the_next_may_be_read(self):
         parts = ask(begin(16, 16, 8), read([255]), read(pack("1" + FLAT)), read([7]), read([64]), picture(256))
         self.assertEqual(parts[1:], [REFUSED, [0], REFUSED, [0], [0] + [128] * 256])
+
+    def test_about_behind_each(self):
+        parts = ask(begin(16, 32, 8), about(), read([255]), about(), read(pack("1" + FLAT * 2)), about(), read([255]),
+                    about(), picture(512))
+        empty, full = [0, 16, 32, 8, 0], [0, 16, 32, 8, 1]
+        self.assertEqual(parts, [[0], empty, REFUSED, empty, [0], full, REFUSED, full, [0] + [128] * 512])
+
+    def test_each_bit_turned_is_refused_or_shows_what_its_bits_tell(self):
+        whole = "0" + moved(5, -3)[:-4] + "1000" + block((3, -40), (59, 1))
+        row = pack(whole)
+        points = noise(256)
+        for k in range(8 * len(row)):
+            other = list(row)
+            other[k // 8] ^= 128 >> k % 8
+            told = ask(begin(16, 16, 4), code(1, points), picture(256), read(other), about(), picture(256))
+            self.assertIn(told[3], ([0], REFUSED))
+            self.assertEqual(told[4], [0, 16, 16, 4, 1])
+            if told[3] == REFUSED:
+                self.assertEqual(told[5], told[2])
+            else:
+                self.assertEqual(told[5], self.by_its_parts(other, 4, points))
+
+    def by_its_parts(self, row, q, points):
+        """What one square shows, put together from the calls moved, values, backward and smooth."""
+        by_itself, squares, filling = take_apart(row, 16, 16)
+        kind, vector, blocks = squares[0]
+        self.assertIn(kind, (2,) if by_itself else (0, 1, 2))
+        self.assertNotIn("1", filling)
+        self.assertLess(len(filling), 8)
+        x, y = vector or (0, 0)
+        guess = [128] * 256
+        if kind < 2:
+            guess = ask(begin(16, 16, q), code(1, points), [6, 0, 0, x, y])[2][1:]
+        for corner, told in enumerate(blocks):
+            if told:
+                back = ask(values(q, told))[0][1:]
+                back = ask(backward(back))[0][1:]
+                for place in range(64):
+                    at = (corner // 2 * 8 + place // 8) * 16 + corner % 2 * 8 + place % 8
+                    guess[at] = max(0, min(255, guess[at] + back[place]))
+        return ask(smooth(16, 16, q, guess))[0]
 
     def test_a_picture_of_another_size(self):
         self.refused(32, 16, 8, "1" + FLAT)
